@@ -6,6 +6,7 @@ import (
 
 	"mezzanine/api"
 	"mezzanine/bus"
+	"mezzanine/lay"
 	"mezzanine/pte"
 )
 
@@ -137,7 +138,7 @@ func TestManyFollow(t *testing.T) {
 			want = append(want, end)
 		}
 	}
-	cameTo(t, came, 20, want...)
+	lay.CameTo(t, came, 20, want...)
 }
 
 // A leaf of each level with each set of flags, by each kind, for each of what a walk is for.
@@ -147,7 +148,7 @@ func TestLeavesFollow(t *testing.T) {
 		gpa := withIndex(level, 7)
 		tables := down(t, gpa, level, 0)
 		for flags := range uint64(256) {
-			put(t, tables, entryAt(tablePage(level), level, gpa), 5<<28|flags)
+			lay.Put(t, tables, entryAt(tablePage(level), level, gpa), 5<<28|flags)
 			for _, w := range fewWants() {
 				for _, implicit := range []int{0, 1, 2, 5} {
 					came[call{onTop, gpa, w, 99, implicit}.follows(t, tables.Twin())]++
@@ -158,7 +159,7 @@ func TestLeavesFollow(t *testing.T) {
 	for _, end := range []string{"trap 1, 0x0", "trap 5, 0x0", "trap 7, 0x0"} {
 		delete(came, end)
 	}
-	cameTo(t, came, 10, allFollows()...)
+	lay.CameTo(t, came, 10, allFollows()...)
 }
 
 // What is no walk follows, too: of addresses that are too far, where there is no memory, and one that is off.
@@ -187,7 +188,7 @@ func TestNoWalksFollow(t *testing.T) {
 // Found for the access, and then for all: written out.
 func TestFoundAgain(t *testing.T) {
 	b := chapterBus(t)
-	put(t, b, 0x80003008, pte.Make(0x80007, 0x1f))
+	lay.Put(t, b, 0x80003008, pte.Make(0x80007, 0x1f))
 	for _, row := range []struct {
 		w        api.Want
 		implicit int
@@ -196,7 +197,7 @@ func TestFoundAgain(t *testing.T) {
 		if got, want := (call{chapterH, 0x80001234, row.w, 99, row.implicit}).told(b), leafIs(0x80007234, 0, row.flags); got != want {
 			t.Errorf("%+v: %s, not %s", row, got, want)
 		}
-		if v, _ := get(b, 0x80003008); v != pte.Make(0x80007, row.flags) {
+		if v, _ := lay.Get(b, 0x80003008); v != pte.Make(0x80007, row.flags) {
 			t.Errorf("%+v: %#x stands there", row, v)
 		}
 	}

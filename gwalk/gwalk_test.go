@@ -6,16 +6,17 @@ import (
 
 	"mezzanine/api"
 	"mezzanine/bus"
+	"mezzanine/lay"
 	"mezzanine/pte"
 )
 
 // chapterBus is the bus of the chapter's examples, chapterH its hgatp.
 func chapterBus(t *testing.T) *bus.Bus {
 	t.Helper()
-	b := newBus(t, 16)
-	put(t, b, 0x80004010, pte.Make(0x80002, 1))
-	put(t, b, 0x80002000, pte.Make(0x80003, 1))
-	put(t, b, 0x80003008, pte.Make(0x80007, 0x57))
+	b := lay.Bus(t, 16)
+	lay.Put(t, b, 0x80004010, pte.Make(0x80002, 1))
+	lay.Put(t, b, 0x80002000, pte.Make(0x80003, 1))
+	lay.Put(t, b, 0x80003008, pte.Make(0x80007, 0x57))
 	return b
 }
 
@@ -44,44 +45,11 @@ func TestExamplesOfTheChapter(t *testing.T) {
 // P17.1
 
 // Each MODE, whatever stands below it.
-func TestModes(t *testing.T) {
-	for mode := range uint64(16) {
-		for _, rest := range []uint64{0, 1<<60 - 1, 1 << 59, 1<<59 - 1, topPage, 0x3fff << 44, 8 << 56, 8} {
-			if got := On(mode<<60 | rest); got != (mode == 8) {
-				t.Errorf("the MODE %d above %#x: %t", mode, rest, got)
-			}
-		}
-	}
-	x := mixer(3)
-	for range 1000 {
-		h := x.word()
-		if On(h) != (h/(1<<60) == 8) || Vmid(h) != h/(1<<44)%(1<<14) {
-			t.Errorf("%#x: %t, %d", h, On(h), Vmid(h))
-		}
-	}
-}
+func TestModes(t *testing.T) { lay.Modes(t, On) }
 
-// Each bit of the word by itself, and alone missing: those from 44 to 57 are VMID's, and the bit 63 alone is a MODE that is on.
+// Each bit of the word by itself, and alone missing: those from 44 to 57 are VMID's.
 func TestVmidByEachBit(t *testing.T) {
-	for i := range 64 {
-		alone, missing := uint64(0), uint64(1<<14-1)
-		if i >= 44 && i <= 57 {
-			alone = 1 << (i - 44)
-			missing -= alone
-		}
-		if got := Vmid(1 << i); got != alone {
-			t.Errorf("the bit %d alone: %#x, not %#x", i, got, alone)
-		}
-		if got := Vmid(all ^ 1<<i); got != missing {
-			t.Errorf("all but the bit %d: %#x, not %#x", i, got, missing)
-		}
-		if got := On(1 << i); got != (i == 63) {
-			t.Errorf("the bit %d alone: %t", i, got)
-		}
-		if got := On(onMode ^ 1<<i); got != (i < 60) {
-			t.Errorf("the MODE 8 with the bit %d changed: %t", i, got)
-		}
-	}
+	lay.Part(t, Vmid, 44, 14)
 	for _, row := range [][2]uint64{{0, 0}, {all, 0x3fff}, {onMode, 0}, {0x3fff << 44, 0x3fff}, {1<<44 - 1, 0}, {from(58), 0}, {0x1234<<44 | onMode | topPage, 0x1234}, {0x3ffe << 44, 0x3ffe}, {3<<58 | 5<<44, 5}} {
 		if got := Vmid(row[0]); got != row[1] {
 			t.Errorf("Vmid of %#x: %#x, not %#x", row[0], got, row[1])
@@ -122,9 +90,9 @@ func TestOff(t *testing.T) {
 // everywhere is a bus whose first four pages are a table of which each entry is a leaf of 2^30 bytes that allows all, and is marked.
 func everywhere(t *testing.T) *bus.Bus {
 	t.Helper()
-	b := newBus(t, 4)
+	b := lay.Bus(t, 4)
 	for i := range uint64(2048) {
-		put(t, b, ramPage*4096+8*i, i<<28|0xdf)
+		lay.Put(t, b, ramPage*4096+8*i, i<<28|0xdf)
 	}
 	return b
 }
@@ -160,7 +128,7 @@ func TestWhatIsWalked(t *testing.T) {
 
 // That an address is too far is told ahead of all else, where there is no memory, too.
 func TestTooFarGoesFirst(t *testing.T) {
-	for _, b := range []*bus.Bus{newBus(t, 1), nil, {}} {
+	for _, b := range []*bus.Bus{lay.Bus(t, 1), nil, {}} {
 		for _, gpa := range []uint64{1 << 41, 1 << 63, all} {
 			for kind := range byte(4) {
 				for implicit := range 4 {
@@ -177,9 +145,9 @@ func TestTooFarGoesFirst(t *testing.T) {
 
 // Each of the 2048 entries of the highest table is that of its address, the first and the last among them.
 func TestEachEntryOfTheTop(t *testing.T) {
-	b := newBus(t, ramPages)
+	b := lay.Bus(t, ramPages)
 	for i := range uint64(2048) {
-		put(t, b, topPage*4096+8*i, (i*5+1)<<28|0xdf)
+		lay.Put(t, b, topPage*4096+8*i, (i*5+1)<<28|0xdf)
 	}
 	for i := range uint64(2048) {
 		for _, inside := range []uint64{0, 0x2345_6789, 1<<30 - 1} {
@@ -196,12 +164,12 @@ func TestEachEntryBelow(t *testing.T) {
 	for level := range 2 {
 		b := down(t, 0, level, 0)
 		for i := range uint64(512) {
-			put(t, b, tablePage(level)*4096+8*i, (i*5+1)<<(10+9*level)|0xdf)
+			lay.Put(t, b, tablePage(level)*4096+8*i, (i*5+1)<<(10+9*level)|0xdf)
 		}
 		for i := range uint64(512) {
-			for _, inside := range []uint64{0, 0x789, sizeOf(level) - 1} {
-				c := call{onTop, i*sizeOf(level) + inside, api.Want{}, 7, 0}
-				if got, want := c.told(b), leafIs((i*5+1)*sizeOf(level)+inside, level, 0xdf); got != want {
+			for _, inside := range []uint64{0, 0x789, lay.SizeOf(level) - 1} {
+				c := call{onTop, i*lay.SizeOf(level) + inside, api.Want{}, 7, 0}
+				if got, want := c.told(b), leafIs((i*5+1)*lay.SizeOf(level)+inside, level, 0xdf); got != want {
 					t.Fatalf("%+v: %s, not %s", c, got, want)
 				}
 			}
@@ -243,28 +211,12 @@ func TestTheTablesBegin(t *testing.T) {
 	}
 }
 
-// spot is a page and which of its entries; in says whether that lies in a memory of so many pages.
-type spot struct {
-	page, index uint64
-	in          bool
-}
-
-// spots are the entries at and about both ends of a memory, and far from it. As a memory is whole pages, and entries stand at multiples of eight, none lies partly in it: the nearest are those that end, and begin, where it does.
-func spots(pages uint64) []spot {
-	return []spot{
-		{ramPage, 0, true}, {ramPage, 1, true}, {ramPage, 511, true}, {ramPage + pages - 1, 0, true}, {ramPage + pages - 1, 510, true}, {ramPage + pages - 1, 511, true},
-		{ramPage - 1, 511, false}, {ramPage - 1, 510, false}, {ramPage + pages, 0, false}, {ramPage + pages, 1, false}, {ramPage + pages, 511, false},
-		{0, 0, false}, {0, 511, false}, {1, 3, false}, {1<<44 - 1, 0, false}, {1<<44 - 1, 511, false}, {ramPage + 1<<20, 0, false}, {ramPage + 1<<43, 5, false}, {ramPage - 1<<19, 0, false},
-		{0x2000, 0, false}, {0x2004, 0, false}, {0x200b, 511, false}, {0xc000, 1, false}, {0xc201, 0, false}, {0x10000, 0, false}, {0x10001, 0, false}, {0x10002, 0, false},
-	}
-}
-
-// to is an address that comes to a spot by a level's table, which begins at the page that is told, too: the highest table may have it in each of its four pages, and lie partly in memory.
-func (s spot) to(level int) (gpa, page uint64) {
+// toSpot is an address that comes to a spot by a level's table, which begins at the page that is told, too: the highest table may have it in each of its four pages, and lie partly in memory.
+func toSpot(s lay.Spot, level int) (gpa, page uint64) {
 	if level == 2 {
-		return withIndex(2, s.page%4*512+s.index), s.page - s.page%4
+		return withIndex(2, s.Page%4*512+s.Index), s.Page - s.Page%4
 	}
-	return withIndex(level, s.index), s.page
+	return withIndex(level, s.Index), s.Page
 }
 
 // Entries of each level that lie in memory, its first and its last eight bytes among them, and that lie not.
@@ -272,22 +224,22 @@ func TestWhereEntriesLie(t *testing.T) {
 	came := map[string]int{}
 	for _, pages := range []uint64{5, 6, 7, 8, 16, api.MaxRam / 4096} {
 		for level := range 3 {
-			for _, s := range spots(pages) {
-				gpa, page := s.to(level)
-				if s.in && level < 2 && (s.page == tablePage(level) || s.page == topPage) {
+			for _, s := range lay.Spots(pages) {
+				gpa, page := toSpot(s, level)
+				if s.In && level < 2 && (s.Page == tablePage(level) || s.Page == topPage) {
 					continue
 				}
 				b, hgatp := inPage(t, pages, gpa, level, page)
 				want := fmt.Sprint("no memory at ", level)
-				if s.in {
-					put(t, b, s.page*4096+s.index*8, 3<<28|0x1f)
+				if s.In {
+					lay.Put(t, b, s.Page*4096+s.Index*8, 3<<28|0x1f)
 					want = fmt.Sprint("found at ", level)
 				}
 				for _, w := range []api.Want{{}, {Kind: 1, V: true}, {Kind: 2}} {
 					for implicit := range 4 {
 						end := call{hgatp, gpa, w, 99, implicit}.holds(t, b)
 						if end != want {
-							t.Fatalf("%d pages, the entry %d of the page %#x at %d: %s, not %s", pages, s.index, s.page, level, end, want)
+							t.Fatalf("%d pages, the entry %d of the page %#x at %d: %s, not %s", pages, s.Index, s.Page, level, end, want)
 						}
 						came[end]++
 					}
@@ -295,14 +247,14 @@ func TestWhereEntriesLie(t *testing.T) {
 			}
 		}
 	}
-	cameTo(t, came, 100, "found at 0", "found at 1", "found at 2", "no memory at 0", "no memory at 1", "no memory at 2")
+	lay.CameTo(t, came, 100, "found at 0", "found at 1", "found at 2", "no memory at 0", "no memory at 1", "no memory at 2")
 }
 
 // The first page of the highest table is in memory, and the others are not.
 func TestATablePartlyInMemory(t *testing.T) {
-	b := newBus(t, 5)
+	b := lay.Bus(t, 5)
 	for i := range uint64(512) {
-		put(t, b, topPage*4096+8*i, i<<28|0x5f)
+		lay.Put(t, b, topPage*4096+8*i, i<<28|0x5f)
 	}
 	for _, i := range []uint64{0, 1, 510, 511, 512, 513, 1023, 1024, 1535, 1536, 2047} {
 		want := leafIs(i<<30|5, 2, 0x5f)
@@ -318,21 +270,14 @@ func TestATablePartlyInMemory(t *testing.T) {
 // What a device has at an address is no entry, though it could be read as one; and it isn't asked.
 func TestDevicesAreNoMemory(t *testing.T) {
 	for level := range 3 {
-		for _, s := range []spot{{page: 0x200b, index: 511}, {page: 0x2004, index: 0}, {page: 0x10000, index: 0}, {page: 0x10001, index: 0}, {page: 0xc000, index: 1}, {page: 0xc200, index: 0}} {
-			gpa, page := s.to(level)
+		for _, s := range lay.Devices() {
+			gpa, page := toSpot(s, level)
 			b, hgatp := inPage(t, ramPages, gpa, level, page)
-			b.Tick(0xdf)
-			b.Write(0x02004000, 8, 0xdf)
-			b.Write(0x10000001, 1, 1)
-			b.Feed(0, 0xdf)
-			b.Feed(1, 0xdf)
-			if v, ok := b.Read(0x0200bff8, 8); v != 0xdf || !ok {
-				t.Fatalf("the clint's time: %#x, %t", v, ok)
-			}
+			lay.Feign(t, b)
 			for _, w := range []api.Want{{}, {Kind: 1, V: true}, {Kind: 2}} {
 				for implicit := range 3 {
 					if end := (call{hgatp, gpa, w, 99, implicit}).holds(t, b); end != fmt.Sprint("no memory at ", level) {
-						t.Errorf("the entry %d of the page %#x at %d: %s", s.index, s.page, level, end)
+						t.Errorf("the entry %d of the page %#x at %d: %s", s.Index, s.Page, level, end)
 					}
 				}
 			}
@@ -349,7 +294,7 @@ func TestJudgedAtEachLevel(t *testing.T) {
 		b := down(t, gpa, level, 0)
 		for flags := range uint64(256) {
 			for _, page := range []uint64{0, lowPage, 1 << 18} {
-				put(t, b, at, page<<10|flags)
+				lay.Put(t, b, at, page<<10|flags)
 				for _, w := range fewWants() {
 					for implicit := range 3 {
 						came[call{onTop, gpa, w, 99, implicit}.holds(t, b)]++
@@ -358,7 +303,7 @@ func TestJudgedAtEachLevel(t *testing.T) {
 			}
 		}
 	}
-	cameTo(t, came, 30, "fault at 2", "fault at 1", "fault at 0", "found at 2", "found at 1", "found at 0", "no memory at 1", "no memory at 0")
+	lay.CameTo(t, came, 30, "fault at 2", "fault at 1", "fault at 0", "found at 2", "found at 1", "found at 0", "no memory at 1", "no memory at 0")
 }
 
 // Each bit of an entry above its flags, with entries that lead down and leaves, at each level.
@@ -370,7 +315,7 @@ func TestEachBitAtEachLevel(t *testing.T) {
 		for i := 8; i < 64; i++ {
 			for _, e := range []uint64{1, 0x1f, 0xdf, ramPage<<10 | 1, 1<<28 | 0x5f} {
 				for _, e := range []uint64{e ^ 1<<i, e | 0x300, e ^ 1<<i | 0x300} {
-					put(t, b, at, e)
+					lay.Put(t, b, at, e)
 					end := call{onTop, gpa, api.Want{Kind: 1, V: true}, 99, 0}.holds(t, b)
 					if e >= 1<<54 && end != fmt.Sprint("fault at ", level) {
 						t.Fatalf("%#x at %d: %s", e, level, end)
@@ -416,7 +361,7 @@ func TestEachBitOfAnAddress(t *testing.T) {
 		b := down(t, gpa, level, 3<<28|0x5f)
 		for i := range 64 {
 			end := call{onTop, gpa ^ 1<<i, api.Want{}, 99, 0}.holds(t, b)
-			if found := end == fmt.Sprint("found at ", level); found != (1<<i < sizeOf(level)) {
+			if found := end == fmt.Sprint("found at ", level); found != (1<<i < lay.SizeOf(level)) {
 				t.Errorf("the bit %d at %d: %s", i, level, end)
 			}
 			if tooFar := end == "too far"; tooFar != (i > 40) {
@@ -474,7 +419,7 @@ func TestMarksOfAccesses(t *testing.T) {
 	for level, flags := range [][]uint64{{0x11, 0x13, 0x17, 0x19, 0x1b, 0x1f, 0x0f, 0x59, 0xdf}, {0x19, 0x53}, {0x19, 0x53}} {
 		for _, flags := range flags {
 			b := down(t, 0x40201678, level, 1<<28|flags)
-			wants(func(w api.Want) {
+			lay.Wants(func(w api.Want) {
 				for _, implicit := range []int{0, 1, 2, -1} {
 					if (call{onTop, 0x40201678, w, 99, implicit}).holds(t, b) == fmt.Sprint("found at ", level) {
 						found++
@@ -617,10 +562,10 @@ func TestAAndD(t *testing.T) {
 					then := e - row.flags + row.then
 					b := down(t, 0x2345, level, e)
 					c := call{onTop, 0x2345, api.Want{Kind: row.kind, V: true}, 99, implicit}
-					if got, want := c.told(b), leafIs(0x3fff<<30|0x2345%sizeOf(level), level, row.then); got != want {
+					if got, want := c.told(b), leafIs(0x3fff<<30|0x2345%lay.SizeOf(level), level, row.then); got != want {
 						t.Errorf("%#x, %+v: %s, not %s", e, c, got, want)
 					}
-					if got, ok := get(b, entryAt(tablePage(level), level, 0x2345)); !ok || got != then {
+					if got, ok := lay.Get(b, entryAt(tablePage(level), level, 0x2345)); !ok || got != then {
 						t.Errorf("%#x, %+v: %#x stands there", e, c, got)
 					}
 					if !bus.Same(b, down(t, 0x2345, level, then)) {
@@ -636,18 +581,18 @@ func TestAAndD(t *testing.T) {
 func TestNothingElseIsWritten(t *testing.T) {
 	x := mixer(5)
 	for range 20 {
-		b := newBus(t, 6)
+		b := lay.Bus(t, 6)
 		for at := uint64(ramPage * 4096); at < (ramPage+6)*4096; at += 8 {
-			put(t, b, at, x.word())
+			lay.Put(t, b, at, x.word())
 		}
 		tables := []uint64{ramPage + 5, ramPage + 4, ramPage}
 		for level := range 3 {
 			gpa := x.below(1 << 41)
 			b := b.Twin()
 			for l := 2; l > level; l-- {
-				put(t, b, entryAt(tables[l], l, gpa), tables[l-1]<<10|1)
+				lay.Put(t, b, entryAt(tables[l], l, gpa), tables[l-1]<<10|1)
 			}
-			put(t, b, entryAt(tables[level], level, gpa), x.below(1<<26)<<28|0x317)
+			lay.Put(t, b, entryAt(tables[level], level, gpa), x.below(1<<26)<<28|0x317)
 			for _, w := range []api.Want{{}, {Kind: 1, V: true}, {Kind: 2}} {
 				for implicit := range 4 {
 					end, want := call{onMode | ramPage, gpa, w, 99, implicit}.holds(t, b), fmt.Sprint("found at ", level)
@@ -669,7 +614,7 @@ func TestALeafOfItsOwnTable(t *testing.T) {
 	if got, want := (call{onTop, 0x2345, api.Want{Kind: 1, Priv: 1}, 99, 0}).told(b), leafIs(lowPage*4096+0x345, 0, 0xdf); got != want {
 		t.Errorf("%s, not %s", got, want)
 	}
-	if v, _ := get(b, lowPage*4096+16); v != lowPage<<10|0xdf {
+	if v, _ := lay.Get(b, lowPage*4096+16); v != lowPage<<10|0xdf {
 		t.Errorf("%#x", v)
 	}
 }
@@ -677,10 +622,10 @@ func TestALeafOfItsOwnTable(t *testing.T) {
 // A table below begins at the page that its entry tells, the lowest two bits of it among them; and it has 512 entries, so that the bits 39 and 40 of an address are nothing there.
 func TestTablesBelow(t *testing.T) {
 	for low := range uint64(4) {
-		b := newBus(t, 12)
-		put(t, b, topPage*4096+8*0x600, (ramPage+8+low)<<10|1)
-		put(t, b, (ramPage+8+low)*4096, ramPage<<10|1)
-		put(t, b, ramPage*4096+8*5, 0x77<<10|0xdf)
+		b := lay.Bus(t, 12)
+		lay.Put(t, b, topPage*4096+8*0x600, (ramPage+8+low)<<10|1)
+		lay.Put(t, b, (ramPage+8+low)*4096, ramPage<<10|1)
+		lay.Put(t, b, ramPage*4096+8*5, 0x77<<10|0xdf)
 		if got, want := (call{onTop, 3<<39 | 5<<12, api.Want{}, 99, 0}).told(b), leafIs(0x77000, 0, 0xdf); got != want {
 			t.Errorf("%s, not %s", got, want)
 		}
@@ -701,7 +646,7 @@ func TestManyWalks(t *testing.T) {
 			came[x.call(pages).runs(t, b).end]++
 		}
 	}
-	cameTo(t, came, 50, allEnds()...)
+	lay.CameTo(t, came, 50, allEnds()...)
 }
 
 // P17.3
@@ -710,7 +655,7 @@ func TestNilBus(t *testing.T) {
 	for _, hgatp := range []uint64{onMode, onTop, onMode | 1<<60 - 1} {
 		for _, gpa := range []uint64{0, 0x2345, 1<<41 - 1, 1 << 41, all} {
 			for _, implicit := range []int{0, 1, 2, 3, -1} {
-				wants(func(w api.Want) {
+				lay.Wants(func(w api.Want) {
 					c := call{hgatp, gpa, w, 99, implicit}
 					want := c.accessFault()
 					if gpa >= 1<<41 {

@@ -1,13 +1,13 @@
 package gwalk
 
 import (
-	"encoding/binary"
 	"fmt"
 	"math"
 	"testing"
 
 	"mezzanine/api"
 	"mezzanine/bus"
+	"mezzanine/lay"
 	"mezzanine/pte"
 )
 
@@ -59,42 +59,12 @@ func trapIs(trap api.Trap) string {
 	return fmt.Sprintf("%+v %+v", api.Leaf{}, trap)
 }
 
-// newBus is a bus of so many pages of memory.
-func newBus(t testing.TB, pages uint64) *bus.Bus {
-	t.Helper()
-	b, err := bus.New(pages*4096, 2)
-	if err != api.OK {
-		t.Fatalf("bus.New of %d pages: %d", pages, err)
-	}
-	return b
-}
-
-// put lays a word at an address of memory.
-func put(t testing.TB, b *bus.Bus, at, v uint64) {
-	t.Helper()
-	if !b.Ram().Put(at, binary.LittleEndian.AppendUint64(nil, v)) {
-		t.Fatalf("no memory at %#x", at)
-	}
-}
-
-// get is the word at an address, if all of it lies in memory.
-func get(b *bus.Bus, at uint64) (uint64, bool) {
-	l, ok := b.Ram().Bytes(at, 8)
-	if !ok {
-		return 0, false
-	}
-	return binary.LittleEndian.Uint64(l), true
-}
-
-// sizeOf is how many bytes a leaf of a level stands for.
-func sizeOf(level int) uint64 { return []uint64{4096, 2 << 20, 1 << 30}[level] }
-
 // entryAt is where the entry of gpa stands in the table of a page: that of the highest level has 2048 entries, and begins at a page that is a multiple of four.
 func entryAt(page uint64, level int, gpa uint64) uint64 {
 	if level == 2 {
-		return (page-page%4)*4096 + gpa/sizeOf(2)%2048*8
+		return (page-page%4)*4096 + gpa/lay.SizeOf(2)%2048*8
 	}
-	return page*4096 + gpa/sizeOf(level)%512*8
+	return lay.EntryAt(page, level, gpa)
 }
 
 // outcome is what the model says of a walk: what is told, where an entry is written (0, if none is), and how it ends.
@@ -106,17 +76,14 @@ type outcome struct {
 }
 
 // guestCause and accessCause are the causes of guest-page faults and access faults by the kinds' numbers.
-func guestCause(kind byte) uint64  { return causes(kind)[0] }
-func accessCause(kind byte) uint64 { return causes(kind)[1] }
+func guestCause(kind byte) uint64 {
+	_, _, guest := lay.Causes(kind)
+	return guest
+}
 
-func causes(kind byte) [2]uint64 {
-	switch kind {
-	case 1:
-		return [2]uint64{23, 7}
-	case 2:
-		return [2]uint64{20, 1}
-	}
-	return [2]uint64{21, 5}
+func accessCause(kind byte) uint64 {
+	_, access, _ := lay.Causes(kind)
+	return access
 }
 
 // guestFault is the trap of the chapter's words, accessFault the one of an entry that is not in memory.
@@ -156,7 +123,7 @@ func (c call) model(b *bus.Bus) outcome {
 // from is the walk from the table of a page on, which is one of a level.
 func (c call) from(b *bus.Bus, page uint64, level int) outcome {
 	at := entryAt(page, level, c.gpa)
-	e, ok := get(b, at)
+	e, ok := lay.Get(b, at)
 	if !ok {
 		return outcome{trap: c.accessFault(), end: fmt.Sprint("no memory at ", level)}
 	}
@@ -172,10 +139,6 @@ func (c call) from(b *bus.Bus, page uint64, level int) outcome {
 // found is what is told of a leaf, and what becomes of it.
 func (c call) found(at, e uint64, level int) outcome {
 	o := outcome{end: fmt.Sprint("found at ", level)}
-	marked := e
-	if e/64%2 == 0 {
-		marked += 64
-	}
 	store := c.w.Kind == 1
 	switch c.implicit {
 	case 1:
@@ -183,14 +146,11 @@ func (c call) found(at, e uint64, level int) outcome {
 	case 2:
 		store = true
 	}
-	if store && e/128%2 == 0 {
-		marked += 128
-	}
+	marked := lay.Marked(e, store)
 	if marked != e {
 		o.at, o.v = at, marked
 	}
-	size := sizeOf(level)
-	o.leaf = api.Leaf{Pa: e/1024%(1<<44)*4096/size*size + c.gpa%size, Level: level, Flags: marked % 256}
+	o.leaf = lay.Leaf(marked, level, c.gpa)
 	return o
 }
 
@@ -199,7 +159,7 @@ func (c call) runs(t *testing.T, b *bus.Bus) outcome {
 	t.Helper()
 	want, after := c.model(b), b.Twin()
 	if want.at != 0 {
-		put(t, after, want.at, want.v)
+		lay.Put(t, after, want.at, want.v)
 	}
 	leaf, trap := c.two(b)
 	if leaf != want.leaf || trap != want.trap {
@@ -232,7 +192,7 @@ const onTop = onMode | topPage
 func down(t *testing.T, gpa uint64, level int, e uint64) *bus.Bus {
 	t.Helper()
 	b, _ := inPage(t, ramPages, gpa, level, tablePage(level))
-	put(t, b, entryAt(tablePage(level), level, gpa), e)
+	lay.Put(t, b, entryAt(tablePage(level), level, gpa), e)
 	return b
 }
 
@@ -242,11 +202,11 @@ func tablePage(level int) uint64 { return []uint64{lowPage, middlePage, topPage}
 // inPage is down where the table of that level lies in a page of choice, and holds nothing yet; told is hgatp, too.
 func inPage(t *testing.T, pages uint64, gpa uint64, level int, page uint64) (*bus.Bus, uint64) {
 	t.Helper()
-	b := newBus(t, pages)
+	b := lay.Bus(t, pages)
 	tables := []uint64{lowPage, middlePage, topPage}
 	tables[level] = page
 	for l := 2; l > level; l-- {
-		put(t, b, entryAt(tables[l], l, gpa), tables[l-1]*1024+1)
+		lay.Put(t, b, entryAt(tables[l], l, gpa), tables[l-1]*1024+1)
 	}
 	return b, onMode | tables[2]
 }
@@ -256,17 +216,6 @@ func withIndex(level int, index uint64) uint64 {
 	indexes := []uint64{2, 1, 2}
 	indexes[level] = index
 	return indexes[2]<<30 | indexes[1]<<21 | indexes[0]<<12 | 0xabc
-}
-
-// wants calls do with an access of each kind that there is, and some that are none, each privilege, and each set of Exec and the marks.
-func wants(do func(w api.Want)) {
-	for _, kind := range []byte{0, 1, 2, 3, 128, 255} {
-		for _, priv := range []byte{0, 1, 2, 3} {
-			for i := range 32 {
-				do(api.Want{Kind: kind, Priv: priv, Exec: i&1 != 0, V: i&2 != 0, Sum: i&4 != 0, Mxr: i&8 != 0, Vmxr: i&16 != 0})
-			}
-		}
-	}
 }
 
 // fewWants are an access of each kind, and those whose Exec or marks tell.
@@ -282,26 +231,13 @@ func implicits() []int {
 // mixer makes words that look like chance, and are the same in each run.
 type mixer uint64
 
-func (x *mixer) word() uint64 {
-	*x += 0x9e3779b97f4a7c15
-	w := uint64(*x)
-	w = (w ^ w>>30) * 0xbf58476d1ce4e5b9
-	w = (w ^ w>>27) * 0x94d049bb133111eb
-	return w ^ w>>31
-}
+func (x *mixer) word() uint64 { return lay.Mix((*uint64)(x)) }
 
 // below is a number below n.
 func (x *mixer) below(n uint64) uint64 { return x.word() % n }
 
 // want makes an access, mostly of a kind that there is.
-func (x *mixer) want() api.Want {
-	b := x.word()
-	w := api.Want{Kind: byte(x.below(3)), Priv: byte(x.below(4)), Exec: b&1 != 0, V: b&2 != 0, Sum: b&4 != 0, Mxr: b&8 != 0, Vmxr: b&16 != 0}
-	if x.below(8) == 0 {
-		w.Kind = byte(x.word())
-	}
-	return w
-}
+func (x *mixer) want() api.Want { return lay.MixedWant((*uint64)(x)) }
 
 // address makes a guest-physical address: mostly one that is walked, of few entries, so that tables are shared.
 func (x *mixer) address() uint64 {
@@ -339,11 +275,11 @@ func (x *mixer) entry(pages uint64) uint64 {
 // tangle is a bus whose few pages are tables of one another.
 func (x *mixer) tangle(t *testing.T, pages uint64) *bus.Bus {
 	t.Helper()
-	b := newBus(t, pages)
+	b := lay.Bus(t, pages)
 	for page := range pages {
 		for i := range uint64(4) {
-			put(t, b, (ramPage+page)*4096+i*8, x.entry(pages))
-			put(t, b, (ramPage+page)*4096+(511-i)*8, x.entry(pages))
+			lay.Put(t, b, (ramPage+page)*4096+i*8, x.entry(pages))
+			lay.Put(t, b, (ramPage+page)*4096+(511-i)*8, x.entry(pages))
 		}
 	}
 	return b
@@ -364,19 +300,6 @@ func (x *mixer) call(pages uint64) call {
 	return c
 }
 
-// cameTo says that each of these ends was come to, at least so many times, and no other one.
-func cameTo(t *testing.T, came map[string]int, least int, ends ...string) {
-	t.Helper()
-	for _, end := range ends {
-		if came[end] < least {
-			t.Errorf("%s: %d times", end, came[end])
-		}
-	}
-	if len(came) > len(ends) {
-		t.Errorf("%v", came)
-	}
-}
-
 // allEnds are all ways in which a walk ends.
 func allEnds() []string {
 	l := []string{"off", "too far"}
@@ -386,19 +309,4 @@ func allEnds() []string {
 		}
 	}
 	return l
-}
-
-// The names that the model takes by their numbers have these numbers.
-func TestTheChaptersNumbers(t *testing.T) {
-	if api.Load != 0 || api.Store != 1 || api.Fetch != 2 || api.User != 0 || api.Super != 1 || api.RamBase != ramPage*4096 || api.PageSize != 4096 {
-		t.Error("kinds, privileges, or pages")
-	}
-	if pte.Fault != 0 || pte.Down != 1 || pte.Found != 2 || pte.A != 64 || pte.D != 128 {
-		t.Error("what Judge tells, or the marks")
-	}
-	for kind, want := range [][2]uint64{{api.LoadGuest, api.LoadFault}, {api.StoreGuest, api.StoreFault}, {api.FetchGuest, api.FetchFault}, {api.LoadGuest, api.LoadFault}} {
-		if causes(byte(kind)) != want {
-			t.Errorf("the causes of %d", kind)
-		}
-	}
 }

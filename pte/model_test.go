@@ -7,6 +7,7 @@ import (
 	"testing"
 
 	"mezzanine/api"
+	"mezzanine/lay"
 )
 
 // The calls have the signatures of the chapter.
@@ -216,13 +217,7 @@ func wants(do func(w api.Want)) {
 // mixer makes words that look like chance, and are the same in each run.
 type mixer uint64
 
-func (x *mixer) word() uint64 {
-	*x += 0x9e3779b97f4a7c15
-	w := uint64(*x)
-	w = (w ^ w>>30) * 0xbf58476d1ce4e5b9
-	w = (w ^ w>>27) * 0x94d049bb133111eb
-	return w ^ w>>31
-}
+func (x *mixer) word() uint64 { return lay.Mix((*uint64)(x)) }
 
 // want makes an access, mostly of a kind that there is.
 func (x *mixer) want() api.Want {

@@ -9,6 +9,7 @@ import (
 
 	"mezzanine/api"
 	"mezzanine/csr"
+	"mezzanine/lay"
 )
 
 // The calls have the signatures of the chapter.
@@ -364,13 +365,7 @@ func causes() []uint64 {
 // mixer makes words that look like chance, and are the same in each run.
 type mixer uint64
 
-func (x *mixer) word() uint64 {
-	*x += 0x9e3779b97f4a7c15
-	w := uint64(*x)
-	w = (w ^ w>>30) * 0xbf58476d1ce4e5b9
-	w = (w ^ w>>27) * 0x94d049bb133111eb
-	return w ^ w>>31
-}
+func (x *mixer) word() uint64 { return lay.Mix((*uint64)(x)) }
 
 // hart makes a hart of such words; a third of them has few ones, a third many.
 func (x *mixer) hart() api.Hart {

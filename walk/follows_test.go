@@ -7,6 +7,7 @@ import (
 
 	"mezzanine/api"
 	"mezzanine/bus"
+	"mezzanine/lay"
 	"mezzanine/pte"
 )
 
@@ -51,7 +52,7 @@ func (x walked) isAllowed(t *testing.T, b *bus.Bus) {
 	if len(path) != 3-x.leaf.Level {
 		t.Fatalf("%+v: its path is %#x", x, path)
 	}
-	if e, _ := get(b, path[len(path)-1]); e%256 != x.leaf.Flags {
+	if e, _ := lay.Get(b, path[len(path)-1]); e%256 != x.leaf.Flags {
 		t.Fatalf("%+v: there stands %#x", x, e)
 	}
 }
@@ -141,7 +142,7 @@ func TestManyFollow(t *testing.T) {
 			came[follows(t, b, root, x.address(), x.want())]++
 		}
 	}
-	cameTo(t, came, 20, allFollows...)
+	lay.CameTo(t, came, 20, allFollows...)
 }
 
 // A leaf of each level with each set of flags, by each kind.
@@ -151,7 +152,7 @@ func TestLeavesFollow(t *testing.T) {
 		va := withIndex(level, 7)
 		tables := down(t, va, level, 0)
 		for flags := range uint64(256) {
-			put(t, tables, entryAt(tablePage(level), level, va), 5<<28|flags)
+			lay.Put(t, tables, entryAt(tablePage(level), level, va), 5<<28|flags)
 			for _, w := range fewWants() {
 				came[follows(t, tables.Twin(), topPage, va, w)]++
 			}
@@ -160,7 +161,7 @@ func TestLeavesFollow(t *testing.T) {
 	delete(came, "fault 5")
 	delete(came, "fault 1")
 	delete(came, "fault 7")
-	cameTo(t, came, 20, allFollows[3:]...)
+	lay.CameTo(t, came, 20, allFollows[3:]...)
 }
 
 // What is no walk follows, too: of addresses that are not walked, and where there is no memory.
@@ -198,7 +199,7 @@ func TestFoundAgain(t *testing.T) {
 // A store that allows more than it asks for: marks that a load needs not take nothing from it, each set of them.
 func TestFoundForAStoreByEachMark(t *testing.T) {
 	found := 0
-	wants(func(w api.Want) {
+	lay.Wants(func(w api.Want) {
 		for _, flags := range []uint64{0x07, 0x0f, 0x17, 0x1f, 0x47, 0x87, 0xd7} {
 			if w.Kind == 1 && follows(t, down(t, 0x2345, 0, 9<<10|flags), topPage, 0x2345, w) == "found for 1 at 0" {
 				found++

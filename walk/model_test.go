@@ -1,7 +1,6 @@
 package walk
 
 import (
-	"encoding/binary"
 	"fmt"
 	"math"
 	"slices"
@@ -9,6 +8,7 @@ import (
 
 	"mezzanine/api"
 	"mezzanine/bus"
+	"mezzanine/lay"
 	"mezzanine/pte"
 )
 
@@ -30,39 +30,9 @@ const ramPage = 0x80000
 // The access most tests begin with.
 var load = api.Want{Kind: 0, Priv: 1}
 
-// newBus is a bus of so many pages of memory.
-func newBus(t testing.TB, pages uint64) *bus.Bus {
-	t.Helper()
-	b, err := bus.New(pages*4096, 2)
-	if err != api.OK {
-		t.Fatalf("bus.New of %d pages: %d", pages, err)
-	}
-	return b
-}
-
-// put lays a word at an address of memory.
-func put(t testing.TB, b *bus.Bus, at, v uint64) {
-	t.Helper()
-	if !b.Ram().Put(at, binary.LittleEndian.AppendUint64(nil, v)) {
-		t.Fatalf("no memory at %#x", at)
-	}
-}
-
-// get is the word at an address, if all of it lies in memory.
-func get(b *bus.Bus, at uint64) (uint64, bool) {
-	l, ok := b.Ram().Bytes(at, 8)
-	if !ok {
-		return 0, false
-	}
-	return binary.LittleEndian.Uint64(l), true
-}
-
-// sizeOf is how many bytes a leaf of a level stands for.
-func sizeOf(level int) uint64 { return []uint64{4096, 2 << 20, 1 << 30}[level] }
-
 // entryAt is where the entry of va stands in the table of a page.
 func entryAt(page uint64, level int, va uint64) uint64 {
-	return page%(1<<44)*4096 + va/sizeOf(level)%512*8
+	return lay.EntryAt(page%(1<<44), level, va)
 }
 
 // modelWalked says whether there is a walk of va: it lies in the lowest, or in the uppermost, 2^38 bytes.
@@ -77,17 +47,14 @@ type outcome struct {
 }
 
 // pageCause and accessCause are the causes by the kinds' numbers.
-func pageCause(kind byte) uint64   { return modelCauses(kind)[0] }
-func accessCause(kind byte) uint64 { return modelCauses(kind)[1] }
+func pageCause(kind byte) uint64 {
+	page, _, _ := lay.Causes(kind)
+	return page
+}
 
-func modelCauses(kind byte) [2]uint64 {
-	switch int(kind) {
-	case 2:
-		return [2]uint64{12, 1}
-	case 1:
-		return [2]uint64{15, 7}
-	}
-	return [2]uint64{13, 5}
+func accessCause(kind byte) uint64 {
+	_, access, _ := lay.Causes(kind)
+	return access
 }
 
 // ends is an outcome by a fault.
@@ -106,7 +73,7 @@ func modelOne(b *bus.Bus, root, va uint64, w api.Want) outcome {
 // modelFrom is the walk from the table of a page on, which is one of a level.
 func modelFrom(b *bus.Bus, page uint64, level int, va uint64, w api.Want) outcome {
 	at := entryAt(page, level, va)
-	e, ok := get(b, at)
+	e, ok := lay.Get(b, at)
 	if !ok {
 		return ends(accessCause(w.Kind), va, w, fmt.Sprint("no memory at ", level))
 	}
@@ -122,18 +89,11 @@ func modelFrom(b *bus.Bus, page uint64, level int, va uint64, w api.Want) outcom
 // modelFound is what is told of a leaf, and what becomes of it.
 func modelFound(at, e uint64, level int, va uint64, w api.Want) outcome {
 	o := outcome{end: fmt.Sprint("found at ", level)}
-	marked := e
-	if e/64%2 == 0 {
-		marked += 64
-	}
-	if w.Kind == 1 && e/128%2 == 0 {
-		marked += 128
-	}
+	marked := lay.Marked(e, w.Kind == 1)
 	if marked != e {
 		o.at, o.v = at, marked
 	}
-	size := sizeOf(level)
-	o.leaf = api.Leaf{Pa: e/1024%(1<<44)*4096/size*size + va%size, Level: level, Flags: marked % 256}
+	o.leaf = lay.Leaf(marked, level, va)
 	return o
 }
 
@@ -148,7 +108,7 @@ func modelPath(b *bus.Bus, root, va uint64) []uint64 {
 // pathFrom is the path from the table of a page on.
 func pathFrom(b *bus.Bus, page uint64, level int, va uint64) []uint64 {
 	at := entryAt(page, level, va)
-	e, ok := get(b, at)
+	e, ok := lay.Get(b, at)
 	if !ok {
 		return nil
 	}
@@ -170,7 +130,7 @@ func runs(t *testing.T, b *bus.Bus, root, va uint64, w api.Want) outcome {
 		t.Fatalf("the path %s: it has changed the bus", what)
 	}
 	if want.at != 0 {
-		put(t, after, want.at, want.v)
+		lay.Put(t, after, want.at, want.v)
 	}
 	leaf, trap := One(b, root, va, w)
 	if leaf != want.leaf || trap != want.trap {
@@ -201,35 +161,24 @@ func tablePage(level int) uint64 { return []uint64{lowPage, middlePage, topPage}
 // down is a bus in which a walk of va by the root topPage comes to the entry e at a level.
 func down(t *testing.T, va uint64, level int, e uint64) *bus.Bus {
 	t.Helper()
-	b := newBus(t, 4)
+	b := lay.Bus(t, 4)
 	for l := 2; l > level; l-- {
-		put(t, b, entryAt(tablePage(l), l, va), tablePage(l-1)*1024+1)
+		lay.Put(t, b, entryAt(tablePage(l), l, va), tablePage(l-1)*1024+1)
 	}
-	put(t, b, entryAt(tablePage(level), level, va), e)
+	lay.Put(t, b, entryAt(tablePage(level), level, va), e)
 	return b
 }
 
 // inPage is down where the table of that level lies in a page of choice, and holds nothing yet: that page is the root, if the level is 2.
 func inPage(t *testing.T, pages uint64, va uint64, level int, page uint64) (*bus.Bus, uint64) {
 	t.Helper()
-	b := newBus(t, pages)
+	b := lay.Bus(t, pages)
 	tables := []uint64{lowPage, middlePage, topPage}
 	tables[level] = page
 	for l := 2; l > level; l-- {
-		put(t, b, entryAt(tables[l], l, va), tables[l-1]*1024+1)
+		lay.Put(t, b, entryAt(tables[l], l, va), tables[l-1]*1024+1)
 	}
 	return b, tables[2]
-}
-
-// wants calls do with an access of each kind that there is, and some that are none, each privilege, and each set of Exec and the marks.
-func wants(do func(w api.Want)) {
-	for _, kind := range []byte{0, 1, 2, 3, 128, 255} {
-		for _, priv := range []byte{0, 1, 2, 3} {
-			for i := range 32 {
-				do(api.Want{Kind: kind, Priv: priv, Exec: i&1 != 0, V: i&2 != 0, Sum: i&4 != 0, Mxr: i&8 != 0, Vmxr: i&16 != 0})
-			}
-		}
-	}
 }
 
 // fewWants are an access of each kind, a supervisor's and a user's.
@@ -240,26 +189,13 @@ func fewWants() []api.Want {
 // mixer makes words that look like chance, and are the same in each run.
 type mixer uint64
 
-func (x *mixer) word() uint64 {
-	*x += 0x9e3779b97f4a7c15
-	w := uint64(*x)
-	w = (w ^ w>>30) * 0xbf58476d1ce4e5b9
-	w = (w ^ w>>27) * 0x94d049bb133111eb
-	return w ^ w>>31
-}
+func (x *mixer) word() uint64 { return lay.Mix((*uint64)(x)) }
 
 // below is a number below n.
 func (x *mixer) below(n uint64) uint64 { return x.word() % n }
 
 // want makes an access, mostly of a kind that there is.
-func (x *mixer) want() api.Want {
-	b := x.word()
-	w := api.Want{Kind: byte(x.below(3)), Priv: byte(x.below(4)), Exec: b&1 != 0, V: b&2 != 0, Sum: b&4 != 0, Mxr: b&8 != 0, Vmxr: b&16 != 0}
-	if x.below(8) == 0 {
-		w.Kind = byte(x.word())
-	}
-	return w
-}
+func (x *mixer) want() api.Want { return lay.MixedWant((*uint64)(x)) }
 
 // address makes a virtual address: mostly one that is walked, of few entries, so that tables are shared.
 func (x *mixer) address() uint64 {
@@ -297,27 +233,14 @@ func (x *mixer) entry(pages uint64) uint64 {
 // tangle is a bus whose few pages are tables of one another.
 func (x *mixer) tangle(t *testing.T, pages uint64) *bus.Bus {
 	t.Helper()
-	b := newBus(t, pages)
+	b := lay.Bus(t, pages)
 	for page := range pages {
 		for i := range uint64(4) {
-			put(t, b, (ramPage+page)*4096+i*8, x.entry(pages))
-			put(t, b, (ramPage+page)*4096+(511-i)*8, x.entry(pages))
+			lay.Put(t, b, (ramPage+page)*4096+i*8, x.entry(pages))
+			lay.Put(t, b, (ramPage+page)*4096+(511-i)*8, x.entry(pages))
 		}
 	}
 	return b
-}
-
-// cameTo says that each of these ends was come to, at least so many times.
-func cameTo(t *testing.T, came map[string]int, least int, ends ...string) {
-	t.Helper()
-	for _, end := range ends {
-		if came[end] < least {
-			t.Errorf("%s: %d times", end, came[end])
-		}
-	}
-	if len(came) > len(ends) {
-		t.Errorf("%v", came)
-	}
 }
 
 // allEnds are all ways in which a walk ends.
@@ -329,17 +252,4 @@ func allEnds() []string {
 		}
 	}
 	return l
-}
-
-// The names that the model takes by their numbers have these numbers.
-func TestTheChaptersNumbers(t *testing.T) {
-	if api.Load != 0 || api.Store != 1 || api.Fetch != 2 || api.User != 0 || api.Super != 1 || api.RamBase != ramPage*4096 || api.PageSize != 4096 {
-		t.Error("kinds, privileges, or pages")
-	}
-	if pte.Fault != 0 || pte.Down != 1 || pte.Found != 2 || pte.A != 64 || pte.D != 128 {
-		t.Error("what Judge tells, or the marks")
-	}
-	if modelCauses(2) != [2]uint64{api.FetchPage, api.FetchFault} || modelCauses(1) != [2]uint64{api.StorePage, api.StoreFault} || modelCauses(0) != [2]uint64{api.LoadPage, api.LoadFault} {
-		t.Error("causes")
-	}
 }

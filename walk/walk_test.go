@@ -7,15 +7,16 @@ import (
 
 	"mezzanine/api"
 	"mezzanine/bus"
+	"mezzanine/lay"
 )
 
 // chapterBus is the bus of the chapter's examples.
 func chapterBus(t *testing.T) *bus.Bus {
 	t.Helper()
-	b := newBus(t, 16)
-	put(t, b, 0x80001000, 0x20000801)
-	put(t, b, 0x80002000, 0x20000c01)
-	put(t, b, 0x80003010, 0x20001c4f)
+	b := lay.Bus(t, 16)
+	lay.Put(t, b, 0x80001000, 0x20000801)
+	lay.Put(t, b, 0x80002000, 0x20000c01)
+	lay.Put(t, b, 0x80003010, 0x20001c4f)
 	return b
 }
 
@@ -60,9 +61,9 @@ func TestExamplesOfTheChapter(t *testing.T) {
 // everywhere is a bus in whose first page each entry is a leaf of 2^30 bytes that allows users all, and is marked.
 func everywhere(t *testing.T) *bus.Bus {
 	t.Helper()
-	b := newBus(t, 1)
+	b := lay.Bus(t, 1)
 	for i := range uint64(512) {
-		put(t, b, ramPage*4096+8*i, i<<28|0xdf)
+		lay.Put(t, b, ramPage*4096+8*i, i<<28|0xdf)
 	}
 	return b
 }
@@ -119,7 +120,7 @@ func TestEachBitOfTheSign(t *testing.T) {
 
 // That an address is not walked is asked ahead of all else: it is a page fault, where there is no memory, too.
 func TestNotWalkedGoesFirst(t *testing.T) {
-	for _, b := range []*bus.Bus{newBus(t, 1), nil, {}} {
+	for _, b := range []*bus.Bus{lay.Bus(t, 1), nil, {}} {
 		for _, va := range []uint64{1 << 38, from(38) - 1, 1 << 63} {
 			for kind := range byte(4) {
 				if got, want := told(b, 0, va, api.Want{Kind: kind}), trapIs(pageCause(kind), va, false); got != want {
@@ -166,22 +167,6 @@ func TestRoots(t *testing.T) {
 	}
 }
 
-// spot is a page and which of its entries; in says whether that lies in a memory of so many pages.
-type spot struct {
-	page, index uint64
-	in          bool
-}
-
-// spots are the entries at and about both ends of a memory, and far from it. As a memory is whole pages, and entries stand at multiples of eight, none lies partly in it: the nearest are those that end, and begin, where it does.
-func spots(pages uint64) []spot {
-	return []spot{
-		{ramPage, 0, true}, {ramPage, 1, true}, {ramPage, 511, true}, {ramPage + pages - 1, 0, true}, {ramPage + pages - 1, 510, true}, {ramPage + pages - 1, 511, true},
-		{ramPage - 1, 511, false}, {ramPage - 1, 510, false}, {ramPage + pages, 0, false}, {ramPage + pages, 1, false}, {ramPage + pages, 511, false},
-		{0, 0, false}, {0, 511, false}, {1, 3, false}, {1<<44 - 1, 0, false}, {1<<44 - 1, 511, false}, {ramPage + 1<<20, 0, false}, {ramPage + 1<<43, 5, false}, {ramPage - 1<<19, 0, false},
-		{0x2000, 0, false}, {0x2004, 0, false}, {0x200b, 511, false}, {0xc000, 1, false}, {0xc201, 0, false}, {0x10000, 0, false}, {0x10001, 0, false}, {0x10002, 0, false},
-	}
-}
-
 // withIndex is an address that is walked by that entry of a level's table, and by the second and third ones of the others.
 func withIndex(level int, index uint64) uint64 {
 	indexes := []uint64{2, 1, 2}
@@ -197,23 +182,23 @@ func withIndex(level int, index uint64) uint64 {
 func TestWhereEntriesLie(t *testing.T) {
 	for _, pages := range []uint64{4, 5, 16, api.MaxRam / 4096} {
 		for level := range 3 {
-			for _, s := range spots(pages) {
-				if s.in && s.page == tablePage(level) {
+			for _, s := range lay.Spots(pages) {
+				if s.In && s.Page == tablePage(level) {
 					continue
 				}
-				va := withIndex(level, s.index)
-				b, root := inPage(t, pages, va, level, s.page)
+				va := withIndex(level, s.Index)
+				b, root := inPage(t, pages, va, level, s.Page)
 				want := fmt.Sprint("no memory at ", level)
-				if s.in {
-					put(t, b, s.page*4096+s.index*8, 3<<28|0x0f)
+				if s.In {
+					lay.Put(t, b, s.Page*4096+s.Index*8, 3<<28|0x0f)
 					want = fmt.Sprint("found at ", level)
 				}
 				for _, w := range []api.Want{{Priv: 1}, {Kind: 1, Priv: 1, V: true}, {Kind: 2, Priv: 1}} {
 					if end := holds(t, b, root, va, w); end != want {
-						t.Fatalf("%d pages, the entry %d of the page %#x at %d: %s, not %s", pages, s.index, s.page, level, end, want)
+						t.Fatalf("%d pages, the entry %d of the page %#x at %d: %s, not %s", pages, s.Index, s.Page, level, end, want)
 					}
 				}
-				if end := holds(t, b, root, va, api.Want{Kind: 9, V: true}); s.in != (end == fmt.Sprint("fault at ", level)) {
+				if end := holds(t, b, root, va, api.Want{Kind: 9, V: true}); s.In != (end == fmt.Sprint("fault at ", level)) {
 					t.Fatalf("an access of no kind, at %d: %s", level, end)
 				}
 			}
@@ -240,9 +225,9 @@ func TestOnePageOfMemory(t *testing.T) {
 		{behind, self, from(30), "no memory at 0", "[" + inLast + " " + inFirst + "]"},
 		{beneath, self, 0x555, "no memory at 1", "[" + inFirst + "]"},
 	} {
-		b := newBus(t, 1)
-		put(t, b, 0x80000000, row.first)
-		put(t, b, 0x80000ff8, row.last)
+		b := lay.Bus(t, 1)
+		lay.Put(t, b, 0x80000000, row.first)
+		lay.Put(t, b, 0x80000ff8, row.last)
 		if got := fmt.Sprintf("%#x", Path(b, ramPage, row.va)); got != row.path {
 			t.Errorf("the path of %#x: %s, not %s", row.va, got, row.path)
 		}
@@ -257,20 +242,13 @@ func TestOnePageOfMemory(t *testing.T) {
 // What a device has at an address is no entry, though it could be read as one; and it isn't asked.
 func TestDevicesAreNoMemory(t *testing.T) {
 	for level := range 3 {
-		for _, s := range []spot{{page: 0x200b, index: 511}, {page: 0x2004, index: 0}, {page: 0x10000, index: 0}, {page: 0x10001, index: 0}, {page: 0xc000, index: 1}, {page: 0xc200, index: 0}} {
-			va := withIndex(level, s.index)
-			b, root := inPage(t, 4, va, level, s.page)
-			b.Tick(0xdf)
-			b.Write(0x02004000, 8, 0xdf)
-			b.Write(0x10000001, 1, 1)
-			b.Feed(0, 0xdf)
-			b.Feed(1, 0xdf)
-			if v, ok := b.Read(0x0200bff8, 8); v != 0xdf || !ok {
-				t.Fatalf("the clint's time: %#x, %t", v, ok)
-			}
+		for _, s := range lay.Devices() {
+			va := withIndex(level, s.Index)
+			b, root := inPage(t, 4, va, level, s.Page)
+			lay.Feign(t, b)
 			for _, w := range []api.Want{{}, {Kind: 1, V: true}, {Kind: 2}} {
 				if end := holds(t, b, root, va, w); end != fmt.Sprint("no memory at ", level) {
-					t.Errorf("the entry %d of the page %#x at %d: %s", s.index, s.page, level, end)
+					t.Errorf("the entry %d of the page %#x at %d: %s", s.Index, s.Page, level, end)
 				}
 			}
 		}
@@ -286,14 +264,14 @@ func TestJudgedAtEachLevel(t *testing.T) {
 		b := down(t, va, level, 0)
 		for flags := range uint64(256) {
 			for _, page := range []uint64{0, lowPage, 1 << 17, 1 << 18} {
-				put(t, b, at, page<<10|flags)
+				lay.Put(t, b, at, page<<10|flags)
 				for _, w := range fewWants() {
 					came[holds(t, b, topPage, va, w)]++
 				}
 			}
 		}
 	}
-	cameTo(t, came, 30, "fault at 2", "fault at 1", "fault at 0", "found at 2", "found at 1", "found at 0", "no memory at 1", "no memory at 0")
+	lay.CameTo(t, came, 30, "fault at 2", "fault at 1", "fault at 0", "found at 2", "found at 1", "found at 0", "no memory at 1", "no memory at 0")
 }
 
 // Each bit of an entry above its flags, with entries that lead down and leaves, at each level.
@@ -305,7 +283,7 @@ func TestEachBitAtEachLevel(t *testing.T) {
 		for i := 8; i < 64; i++ {
 			for _, e := range []uint64{1, 0x0f, 0xcf, ramPage<<10 | 1, 1<<28 | 0x4f} {
 				for _, e := range []uint64{e ^ 1<<i, e | 0x300, e ^ 1<<i | 0x300} {
-					put(t, b, at, e)
+					lay.Put(t, b, at, e)
 					end := holds(t, b, topPage, va, api.Want{Kind: 1, Priv: 1})
 					if e >= 1<<54 && end != fmt.Sprint("fault at ", level) {
 						t.Fatalf("%#x at %d: %s", e, level, end)
@@ -345,7 +323,7 @@ func TestEachBitOfAnAddress(t *testing.T) {
 		b := down(t, va, level, 3<<28|0x4f)
 		for i := range 64 {
 			end := holds(t, b, topPage, va^1<<i, load)
-			if found := end == fmt.Sprint("found at ", level); found != (1<<i < sizeOf(level)) {
+			if found := end == fmt.Sprint("found at ", level); found != (1<<i < lay.SizeOf(level)) {
 				t.Errorf("the bit %d at %d: %s", i, level, end)
 			}
 		}
@@ -390,7 +368,7 @@ func TestMarksOfAccesses(t *testing.T) {
 	for level := range 3 {
 		for _, flags := range []uint64{0x03, 0x07, 0x09, 0x0b, 0x0f, 0x13, 0x17, 0x19, 0x1b, 0x1f, 0x59, 0xdf} {
 			b := down(t, 0x40201678, level, 1<<28|flags)
-			wants(func(w api.Want) {
+			lay.Wants(func(w api.Want) {
 				if holds(t, b, topPage, 0x40201678, w) == fmt.Sprint("found at ", level) {
 					found++
 				}
@@ -479,7 +457,7 @@ func TestAAndD(t *testing.T) {
 				if trap.Is || leaf.Flags != row.then || leaf.Level != level {
 					t.Errorf("%#x for %d: %+v, %+v", e, row.kind, leaf, trap)
 				}
-				if got, ok := get(b, entryAt(tablePage(level), level, 0x2345)); !ok || got != e-row.flags+row.then {
+				if got, ok := lay.Get(b, entryAt(tablePage(level), level, 0x2345)); !ok || got != e-row.flags+row.then {
 					t.Errorf("%#x for %d: %#x stands there", e, row.kind, got)
 				}
 				after := down(t, 0x2345, level, e-row.flags+row.then)
@@ -495,17 +473,17 @@ func TestAAndD(t *testing.T) {
 func TestNothingElseIsWritten(t *testing.T) {
 	x := mixer(5)
 	for range 20 {
-		b := newBus(t, 4)
+		b := lay.Bus(t, 4)
 		for at := uint64(ramPage * 4096); at < (ramPage+4)*4096; at += 8 {
-			put(t, b, at, x.word())
+			lay.Put(t, b, at, x.word())
 		}
 		for level := range 3 {
 			va := x.below(1 << 38)
 			b := b.Twin()
 			for l := 2; l > level; l-- {
-				put(t, b, entryAt(ramPage+uint64(l), l, va), (ramPage+uint64(l)-1)<<10|1)
+				lay.Put(t, b, entryAt(ramPage+uint64(l), l, va), (ramPage+uint64(l)-1)<<10|1)
 			}
-			put(t, b, entryAt(ramPage+uint64(level), level, va), x.below(1<<26)<<28|0x30f)
+			lay.Put(t, b, entryAt(ramPage+uint64(level), level, va), x.below(1<<26)<<28|0x30f)
 			for _, w := range []api.Want{{Priv: 1}, {Kind: 1, Priv: 1}, {Kind: 2, Priv: 1}, {}} {
 				end, want := holds(t, b, ramPage+2, va, w), fmt.Sprint("found at ", level)
 				if w == (api.Want{}) {
@@ -525,7 +503,7 @@ func TestALeafOfItsOwnTable(t *testing.T) {
 	if got, want := told(b, topPage, 0x2345, api.Want{Kind: 1, Priv: 1}), leafIs(lowPage*4096+0x345, 0, 0xcf); got != want {
 		t.Errorf("%s, not %s", got, want)
 	}
-	if v, _ := get(b, lowPage*4096+16); v != lowPage<<10|0xcf {
+	if v, _ := lay.Get(b, lowPage*4096+16); v != lowPage<<10|0xcf {
 		t.Errorf("%#x", v)
 	}
 }
@@ -548,7 +526,7 @@ func TestManyWalks(t *testing.T) {
 			came[runs(t, b, root, x.address(), x.want()).end]++
 		}
 	}
-	cameTo(t, came, 50, allEnds()...)
+	lay.CameTo(t, came, 50, allEnds()...)
 }
 
 // P16.2
@@ -652,7 +630,7 @@ func TestNilBus(t *testing.T) {
 				if got := Path(b, root, va); len(got) != 0 {
 					t.Errorf("%#x", got)
 				}
-				wants(func(w api.Want) {
+				lay.Wants(func(w api.Want) {
 					cause := accessCause(w.Kind)
 					if !modelWalked(va) {
 						cause = pageCause(w.Kind)
